@@ -1,0 +1,96 @@
+"""The head of the interface, and points 0.2 and 0.3: what holds for every module."""
+
+import ast
+import copy
+import importlib
+import inspect
+import pathlib
+import unittest
+
+FOLDER = pathlib.Path(__file__).resolve().parent.parent / "turnedrows"
+
+FUNCTIONS = {
+    "rows": {
+        "check_row": ["row"], "sorted_row": ["n"], "relative_row": ["first", "second"], "rings": ["row"],
+        "block_rings": ["row"],
+    },
+    "moves": {"do_move": ["row", "move"], "do_script": ["row", "moves"]},
+    "swaps": {
+        "least_swaps": ["first", "second"], "swap_script": ["first", "second"], "swap_ways": ["first", "second"],
+    },
+    "nexts": {
+        "least_nexts": ["first", "second"], "next_script": ["first", "second"], "next_ways": ["first", "second"],
+    },
+}
+
+IMPORTS = ("heapq", "math", "itertools", "collections")
+
+
+def is_plain_value(value):
+    """True for a number, a string, or a tuple of these, nested in any way."""
+    if type(value) is tuple:
+        return all(is_plain_value(item) for item in value)
+    return type(value) in (int, str)
+
+
+class Interface(unittest.TestCase):
+    def test_each_function_is_defined_in_its_file_with_its_arguments(self):
+        for module in FUNCTIONS:
+            there = importlib.import_module(f"turnedrows.{module}")
+            for name, arguments in FUNCTIONS[module].items():
+                function = getattr(there, name)
+                self.assertTrue(inspect.isfunction(function), name)
+                self.assertEqual(function.__module__, f"turnedrows.{module}", name)
+                self.assertEqual(list(inspect.signature(function).parameters), arguments, name)
+
+    def test_no_clock_no_random_numbers_no_files(self):
+        for path in FOLDER.iterdir():
+            if path.name == "__pycache__":
+                continue
+            self.assertEqual(path.suffix, ".py")
+            for node in ast.walk(ast.parse(path.read_text(encoding="ascii"))):
+                self.assertNotIsInstance(node, ast.Import, path.name)
+                if isinstance(node, ast.ImportFrom):
+                    self.assertEqual(node.level, 0)
+                    self.assertTrue(node.module.startswith("turnedrows.") or node.module in IMPORTS, node.module)
+
+    def test_strings_have_plain_characters(self):
+        allowed = {chr(code) for code in range(32, 127)} - {chr(37)} | {"\n"}
+        for path in FOLDER.glob("*.py"):
+            for node in ast.walk(ast.parse(path.read_text(encoding="ascii"))):
+                if isinstance(node, ast.Constant) and isinstance(node.value, str):
+                    self.assertLessEqual(set(node.value), allowed, path.name)
+
+
+class Values(unittest.TestCase):
+    """All numbers are integers; rows, moves and scripts are tuples; no argument is changed."""
+
+    def results(self):
+        from turnedrows import moves, nexts, rows, swaps
+        pair = ((3, 1, 4, 2), (2, 4, 1, 3))
+        script = (("swap", 0, 1), ("blocks", 0, 1, 2, 4))
+        return [
+            (rows.check_row, pair[:1]), (rows.sorted_row, (5,)), (rows.relative_row, pair), (rows.rings, pair[:1]),
+            (rows.block_rings, pair[:1]), (moves.do_move, (pair[0], script[1])), (moves.do_script, (pair[0], script)),
+            (swaps.least_swaps, pair), (swaps.swap_script, pair), (swaps.swap_ways, pair),
+            (nexts.least_nexts, pair), (nexts.next_script, pair), (nexts.next_ways, pair),
+        ]
+
+    def test_values_are_tuples_and_integers(self):
+        for function, arguments in self.results():
+            self.assertTrue(is_plain_value(function(*arguments)), function.__name__)
+
+    def test_arguments_stay_and_results_come_again(self):
+        for function, arguments in self.results():
+            before = copy.deepcopy(arguments)
+            result = function(*arguments)
+            self.assertEqual(arguments, before)
+            self.assertEqual(function(*arguments), result)
+
+    def test_each_function_is_called_here(self):
+        called = [function.__name__ for function, _ in self.results()]
+        self.assertEqual(sorted(called), sorted([name for module in FUNCTIONS.values() for name in module]))
+
+
+if __name__ == "__main__":
+    unittest.main()

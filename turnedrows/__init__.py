@@ -1,0 +1,1 @@
+"""Turnedrows: the fewest moves that lead one row of pieces into another."""
