@@ -1,5 +1,6 @@
 """What several tests need. Nothing here uses the program's own moves: the tests compare it with the document."""
 
+import functools
 import itertools
 import random
 
@@ -33,6 +34,7 @@ def long_pairs():
     return pairs
 
 
+@functools.lru_cache(maxsize=None)
 def plain_moves(kind, n):
     """All moves of a kind of rows of n pieces, by the words of point 1.2."""
     places = range(n)
@@ -46,6 +48,12 @@ def plain_moves(kind, n):
     return [
         (kind, i, j, k, l) for i in cuts for j in cuts for k in cuts for l in cuts if i < j and j <= k and k < l
     ]
+
+
+@functools.lru_cache(maxsize=None)
+def move_set(kind, n):
+    """All moves of a kind of rows of n pieces, as a set."""
+    return frozenset(plain_moves(kind, n))
 
 
 def after(row, move):
@@ -116,7 +124,7 @@ def check_script(test, kind, script, least, first, second):
     moves = script(first, second)
     test.assertIs(type(moves), tuple)
     test.assertEqual(len(moves), least(first, second), (first, second))
-    allowed = set(plain_moves(kind, len(first))) if len(first) < 12 else None
+    allowed = move_set(kind, len(first)) if len(first) < 12 else None
     for move in moves:
         test.assertIs(type(move), tuple)
         test.assertEqual(move[0], kind)

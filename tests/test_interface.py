@@ -7,6 +7,8 @@ import inspect
 import pathlib
 import unittest
 
+from turnedrows import blocks, moves, nexts, numbering, rows, signed, spheres, swaps, takes
+
 FOLDER = pathlib.Path(__file__).resolve().parent.parent / "turnedrows"
 
 FUNCTIONS = {
@@ -20,6 +22,16 @@ FUNCTIONS = {
     },
     "nexts": {
         "least_nexts": ["first", "second"], "next_script": ["first", "second"], "next_ways": ["first", "second"],
+    },
+    "takes": {
+        "rising": ["row"], "falls": ["row"], "least_takes": ["first", "second"], "take_script": ["first", "second"],
+    },
+    "blocks": {"least_blocks": ["first", "second"], "block_script": ["first", "second"]},
+    "spheres": {"how_many": ["kind", "n", "d"]},
+    "numbering": {"row_number": ["row"], "row_at": ["n", "number"]},
+    "signed": {
+        "check_signed": ["row"], "do_turn": ["row", "move"], "do_turns": ["row", "moves"],
+        "relative_signed": ["first", "second"], "breaks": ["row"],
     },
 }
 
@@ -66,14 +78,20 @@ class Values(unittest.TestCase):
     """All numbers are integers; rows, moves and scripts are tuples; no argument is changed."""
 
     def results(self):
-        from turnedrows import moves, nexts, rows, swaps
         pair = ((3, 1, 4, 2), (2, 4, 1, 3))
+        signs = ((3, -1, -4, 2), (-2, -4, 1, 3))
+        turns = (("turn", 0, 2), ("turn", 3, 3))
         script = (("swap", 0, 1), ("blocks", 0, 1, 2, 4))
         return [
             (rows.check_row, pair[:1]), (rows.sorted_row, (5,)), (rows.relative_row, pair), (rows.rings, pair[:1]),
             (rows.block_rings, pair[:1]), (moves.do_move, (pair[0], script[1])), (moves.do_script, (pair[0], script)),
             (swaps.least_swaps, pair), (swaps.swap_script, pair), (swaps.swap_ways, pair),
             (nexts.least_nexts, pair), (nexts.next_script, pair), (nexts.next_ways, pair),
+            (takes.rising, pair[:1]), (takes.falls, pair[:1]), (takes.least_takes, pair), (takes.take_script, pair),
+            (blocks.least_blocks, pair), (blocks.block_script, pair),
+            (spheres.how_many, ("take", 5, 2)), (numbering.row_number, pair[:1]), (numbering.row_at, (4, 13)),
+            (signed.check_signed, signs[:1]), (signed.do_turn, (signs[0], turns[0])),
+            (signed.do_turns, (signs[0], turns)), (signed.relative_signed, signs), (signed.breaks, signs[:1]),
         ]
 
     def test_values_are_tuples_and_integers(self):
