@@ -12,6 +12,15 @@ BAD_ROWS = (
     (1,) * 40, tuple(range(1, 40)) + (1,), tuple(range(1, 40)) + (41,), tuple(range(1, 101)),
 )
 
+FORTY = tuple(range(1, 41))
+NEGATIVE = tuple([-x for x in FORTY])
+
+BAD_SIGNED = (
+    (0,), (2,), (-2,), (1, 1), (-1, -1), (1, -1), (-1, 1), (1, 0), (0, -1), (0, 0), (1, 3), (1, -3), (2, 3), (1, -2, 2),
+    (1, 2, -4), (HUGE,), (-HUGE,), (1, -HUGE), FORTY + (41,), FORTY + (-41,), NEGATIVE + (-41,),
+    FORTY[:39] + (-1,), FORTY[:39] + (-41,), FORTY[:39] + (0,), FORTY + (0,), (1,) * 40, FORTY + NEGATIVE,
+)
+
 
 def plain_rows(n):
     """All plain rows of n pieces, in ascending order."""
@@ -104,9 +113,9 @@ def search(first, moves):
     return least, ways
 
 
-def check_least_of_few(test, kind, least):
+def check_least_of_few(test, kind, least, most=5):
     """The least number for all pairs of rows of few pieces is that of a breadth-first search over the moves."""
-    for n in range(6):
+    for n in range(most + 1):
         moves = plain_moves(kind, n)
         for first in plain_rows(n):
             found = search(first, moves)[0]
@@ -152,6 +161,55 @@ def check_scripts(test, kind, script, least):
         check_script(test, kind, script, least, first, second)
 
 
+def signed_rows(n):
+    """All signed rows of n pieces."""
+    return [
+        tuple([sign * x for sign, x in zip(signs, row)])
+        for row in plain_rows(n) for signs in itertools.product((1, -1), repeat=n)
+    ]
+
+
+def some_signed(n, many, seed=1):
+    """A few shuffled signed rows of n pieces, the same ones in each run."""
+    chance = random.Random(f"signs {n} {seed}")
+    return [tuple([chance.choice((1, -1)) * x for x in row]) for row in some_rows(n, many, seed)]
+
+
+def after_turn(row, move):
+    """The row after a turn, done on a list of its pieces."""
+    _, i, j = move
+    pieces = list(row)
+    for step in range(j - i + 1):
+        pieces[i + step] = -row[j - step]
+    return tuple(pieces)
+
+
+def after_turns(row, moves):
+    """The row after several turns."""
+    for move in moves:
+        row = after_turn(row, move)
+    return row
+
+
+def all_turns(n):
+    """All turns of rows of n pieces, by the words of point 2.1."""
+    return [("turn", i, j) for i in range(n) for j in range(n) if i <= j]
+
+
+def search_turns(first):
+    """From a signed row on, breadth first: the least number of turns to each row."""
+    least = {first: 0}
+    queue = [first]
+    moves = all_turns(len(first))
+    for row in queue:
+        for move in moves:
+            there = after_turn(row, move)
+            if there not in least:
+                least[there] = least[row] + 1
+                queue.append(there)
+    return least
+
+
 def check_refuses_rows(test, error, function):
     """A function of two plain rows refuses a bad first row, a bad second one, and rows of different lengths."""
     for bad in BAD_ROWS:
@@ -167,3 +225,19 @@ def check_refuses_rows(test, error, function):
             function(tuple(range(1, n + 1)), tuple(range(1, m + 1)))
         with test.assertRaises(error):
             function(tuple(range(1, m + 1)), tuple(range(1, n + 1)))
+
+
+def check_refuses_signed(test, error, function):
+    """A function of two signed rows refuses a bad first row, a bad second one, and rows of different lengths."""
+    for bad in BAD_SIGNED:
+        for good in {(), (1,), (-2, 1), FORTY[:len(bad)], NEGATIVE[:len(bad)], FORTY, NEGATIVE[:13]}:
+            with test.assertRaises(error):
+                function(bad, good)
+            with test.assertRaises(error):
+                function(good, bad)
+        with test.assertRaises(error):
+            function(bad, bad)
+    for n, m in ((0, 1), (1, 2), (2, 4), (7, 8), (12, 13), (13, 14), (39, 40), (0, 40), (5, 40)):
+        for first, second in ((FORTY[:n], NEGATIVE[:m]), (NEGATIVE[:m], FORTY[:n]), (FORTY[:m], FORTY[:n])):
+            with test.assertRaises(error):
+                function(first, second)

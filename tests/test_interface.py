@@ -7,7 +7,9 @@ import inspect
 import pathlib
 import unittest
 
-from turnedrows import blocks, moves, nexts, numbering, rows, signed, spheres, swaps, takes
+from turnedrows import (
+    blocks, drawing, flips, hurdles, moves, nexts, numbering, parts, rows, signed, spheres, swaps, takes, turns,
+)
 
 FOLDER = pathlib.Path(__file__).resolve().parent.parent / "turnedrows"
 
@@ -33,7 +35,14 @@ FUNCTIONS = {
         "check_signed": ["row"], "do_turn": ["row", "move"], "do_turns": ["row", "moves"],
         "relative_signed": ["first", "second"], "breaks": ["row"],
     },
+    "drawing": {"marks": ["row"], "light_lines": ["row"], "drawing_rings": ["row"]},
+    "parts": {"is_oriented": ["line"], "crosses": ["line", "other"], "parts": ["row"], "bad_parts": ["row"]},
+    "hurdles": {"hurdles": ["row"], "great_hurdles": ["row"], "is_fortress": ["row"]},
+    "turns": {"least_turns": ["first", "second"], "turn_script": ["first", "second"]},
+    "flips": {"least_flips": ["first", "second"], "flip_script": ["first", "second"]},
 }
+
+ANSWERS = ("is_oriented", "crosses", "is_fortress")
 
 IMPORTS = ("heapq", "math", "itertools", "collections")
 
@@ -80,7 +89,7 @@ class Values(unittest.TestCase):
     def results(self):
         pair = ((3, 1, 4, 2), (2, 4, 1, 3))
         signs = ((3, -1, -4, 2), (-2, -4, 1, 3))
-        turns = (("turn", 0, 2), ("turn", 3, 3))
+        script_of_turns = (("turn", 0, 2), ("turn", 3, 3))
         script = (("swap", 0, 1), ("blocks", 0, 1, 2, 4))
         return [
             (rows.check_row, pair[:1]), (rows.sorted_row, (5,)), (rows.relative_row, pair), (rows.rings, pair[:1]),
@@ -90,13 +99,21 @@ class Values(unittest.TestCase):
             (takes.rising, pair[:1]), (takes.falls, pair[:1]), (takes.least_takes, pair), (takes.take_script, pair),
             (blocks.least_blocks, pair), (blocks.block_script, pair),
             (spheres.how_many, ("take", 5, 2)), (numbering.row_number, pair[:1]), (numbering.row_at, (4, 13)),
-            (signed.check_signed, signs[:1]), (signed.do_turn, (signs[0], turns[0])),
-            (signed.do_turns, (signs[0], turns)), (signed.relative_signed, signs), (signed.breaks, signs[:1]),
+            (signed.check_signed, signs[:1]), (signed.do_turn, (signs[0], script_of_turns[0])),
+            (signed.do_turns, (signs[0], script_of_turns)), (signed.relative_signed, signs), (signed.breaks, signs[:1]),
+            (drawing.marks, signs[:1]), (drawing.light_lines, signs[:1]), (drawing.drawing_rings, signs[:1]),
+            (parts.is_oriented, ((1, 4),)), (parts.crosses, ((1, 4), (2, 6))), (parts.parts, pair[:1]),
+            (parts.bad_parts, pair[:1]), (hurdles.hurdles, pair[:1]), (hurdles.great_hurdles, pair[:1]),
+            (hurdles.is_fortress, pair[:1]), (turns.least_turns, signs), (turns.turn_script, signs),
+            (flips.least_flips, pair), (flips.flip_script, pair),
         ]
 
     def test_values_are_tuples_and_integers(self):
         for function, arguments in self.results():
-            self.assertTrue(is_plain_value(function(*arguments)), function.__name__)
+            if function.__name__ in ANSWERS:
+                self.assertIs(type(function(*arguments)), bool, function.__name__)
+            else:
+                self.assertTrue(is_plain_value(function(*arguments)), function.__name__)
 
     def test_arguments_stay_and_results_come_again(self):
         for function, arguments in self.results():

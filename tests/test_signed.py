@@ -1,52 +1,14 @@
 """signed.py: points 2.1, 2.2 and 2.8."""
 
 import itertools
-import random
 import unittest
 
 from tests import helpers
+from tests.helpers import FORTY, NEGATIVE, after_turn, after_turns, signed_rows, some_signed
 from turnedrows.errors import InvalidMove, InvalidRow
 from turnedrows.signed import breaks, check_signed, do_turn, do_turns, relative_signed
 
 ROW = (3, -1, 4, -2, 5)
-FORTY = tuple(range(1, 41))
-NEGATIVE = tuple([-x for x in FORTY])
-
-BAD_ROWS = (
-    (0,), (2,), (-2,), (1, 1), (-1, -1), (1, -1), (-1, 1), (1, 0), (0, -1), (0, 0), (1, 3), (1, -3), (2, 3), (1, -2, 2),
-    (1, 2, -4), (helpers.HUGE,), (-helpers.HUGE,), (1, -helpers.HUGE), FORTY + (41,), FORTY + (-41,), NEGATIVE + (-41,),
-    FORTY[:39] + (-1,), FORTY[:39] + (-41,), FORTY[:39] + (0,), FORTY + (0,), (1,) * 40, FORTY + NEGATIVE,
-)
-
-
-def signed_rows(n):
-    """All signed rows of n pieces."""
-    return [
-        tuple([sign * x for sign, x in zip(signs, row)])
-        for row in helpers.plain_rows(n) for signs in itertools.product((1, -1), repeat=n)
-    ]
-
-
-def some_signed(n, many, seed=1):
-    """A few shuffled signed rows of n pieces, the same ones in each run."""
-    chance = random.Random(f"signs {n} {seed}")
-    return [tuple([chance.choice((1, -1)) * x for x in row]) for row in helpers.some_rows(n, many, seed)]
-
-
-def after_turn(row, move):
-    """The row after a turn, done on a list of its pieces."""
-    _, i, j = move
-    pieces = list(row)
-    for step in range(j - i + 1):
-        pieces[i + step] = -row[j - step]
-    return tuple(pieces)
-
-
-def after_turns(row, moves):
-    """The row after several turns."""
-    for move in moves:
-        row = after_turn(row, move)
-    return row
 
 
 class CheckSigned(unittest.TestCase):
@@ -68,7 +30,7 @@ class CheckSigned(unittest.TestCase):
                         check_signed(row)
 
     def test_bad_rows(self):
-        for bad in BAD_ROWS:
+        for bad in helpers.BAD_SIGNED:
             for function in (check_signed, breaks):
                 with self.assertRaises(InvalidRow):
                     function(bad)
@@ -133,7 +95,7 @@ class DoTurn(unittest.TestCase):
         self.refuse((), ("turn", 0, -1))
 
     def test_the_row_comes_ahead_of_the_move(self):
-        for bad in BAD_ROWS:
+        for bad in helpers.BAD_SIGNED:
             for move in (("turn", 0, 0), ("turn", 1, 0), ("swap", 0, 1), ()):
                 with self.assertRaises(InvalidRow):
                     do_turn(bad, move)
@@ -193,7 +155,7 @@ class RelativeSigned(unittest.TestCase):
                 self.assertEqual(relative_signed(first, first), tuple(range(1, n + 1)))
 
     def test_bad_rows(self):
-        for bad in BAD_ROWS:
+        for bad in helpers.BAD_SIGNED:
             for good in ((), (1,), (-2, 1), FORTY):
                 with self.assertRaises(InvalidRow):
                     relative_signed(bad, good)

@@ -49,8 +49,13 @@ def relative_signed(first, second):
     return tuple([q + 1 if piece == second[q] else -(q + 1) for piece, q in zip(first, places)])
 
 
-def breaks(row):
-    """The number of neighbors x, y of a signed row, with 0 before it and n + 1 behind it, of which y is not x + 1."""
+def break_places(row):
+    """The list of the places before which a signed row has a break; the break behind its last piece has place n."""
     check_signed(row)
     full = (0,) + row + (len(row) + 1,)
-    return len([i for i in range(len(row) + 1) if full[i + 1] != full[i] + 1])
+    return [place for place in range(len(row) + 1) if full[place + 1] != full[place] + 1]
+
+
+def breaks(row):
+    """The number of neighbors x, y of a signed row, with 0 before it and n + 1 behind it, of which y is not x + 1."""
+    return len(break_places(row))
