@@ -8,7 +8,8 @@ import pathlib
 import unittest
 
 from turnedrows import (
-    blocks, drawing, flips, hurdles, moves, nexts, numbering, parts, rows, signed, spheres, swaps, takes, turns,
+    blocks, bodies, closed, cuts, drawing, flips, hurdles, moves, nexts, numbering, parts, recuts, rows, signed,
+    spheres, swaps, takes, together, turns,
 )
 
 FOLDER = pathlib.Path(__file__).resolve().parent.parent / "turnedrows"
@@ -40,9 +41,30 @@ FUNCTIONS = {
     "hurdles": {"hurdles": ["row"], "great_hurdles": ["row"], "is_fortress": ["row"]},
     "turns": {"least_turns": ["first", "second"], "turn_script": ["first", "second"]},
     "flips": {"least_flips": ["first", "second"], "flip_script": ["first", "second"]},
+    "closed": {
+        "opened": ["row"], "is_same_closed": ["first", "second"], "least_closed_turns": ["first", "second"],
+        "closed_turn_script": ["first", "second"],
+    },
+    "together": {"common_stretches": ["first", "second"]},
+    "bodies": {"body_of": ["n", "joints"]},
+    "cuts": {"do_cut": ["body", "move"], "do_cuts": ["body", "moves"]},
+    "recuts": {
+        "web": ["first", "second"], "least_recuts": ["first", "second"], "recut_script": ["first", "second"],
+        "recut_ways": ["first", "second"],
+    },
 }
 
-ANSWERS = ("is_oriented", "crosses", "is_fortress")
+CLASSES = {
+    "bodies": {
+        "Body": {
+            "__init__": ["self", "n", "strands"], "joints": ["self"], "loose": ["self"], "partner": ["self", "end"],
+            "strands": ["self"],
+        },
+    },
+}
+
+ANSWERS = ("is_oriented", "crosses", "is_fortress", "is_same_closed")
+BODIES = ("body_of", "do_cut", "do_cuts")
 
 IMPORTS = ("heapq", "math", "itertools", "collections")
 
@@ -63,6 +85,17 @@ class Interface(unittest.TestCase):
                 self.assertTrue(inspect.isfunction(function), name)
                 self.assertEqual(function.__module__, f"turnedrows.{module}", name)
                 self.assertEqual(list(inspect.signature(function).parameters), arguments, name)
+
+    def test_each_class_is_defined_in_its_file_with_its_methods(self):
+        for module in CLASSES:
+            there = importlib.import_module(f"turnedrows.{module}")
+            for name, methods in CLASSES[module].items():
+                kind = getattr(there, name)
+                self.assertTrue(inspect.isclass(kind), name)
+                self.assertEqual(kind.__module__, f"turnedrows.{module}", name)
+                for method, arguments in methods.items():
+                    self.assertIn(method, vars(kind))
+                    self.assertEqual(list(inspect.signature(vars(kind)[method]).parameters), arguments, method)
 
     def test_no_clock_no_random_numbers_no_files(self):
         for path in FOLDER.iterdir():
@@ -91,6 +124,7 @@ class Values(unittest.TestCase):
         signs = ((3, -1, -4, 2), (-2, -4, 1, 3))
         script_of_turns = (("turn", 0, 2), ("turn", 3, 3))
         script = (("swap", 0, 1), ("blocks", 0, 1, 2, 4))
+        two = (bodies.Body(3, (("open", (1, -2, 3)),)), bodies.Body(3, (("open", (1, 2, 3)),)))
         return [
             (rows.check_row, pair[:1]), (rows.sorted_row, (5,)), (rows.relative_row, pair), (rows.rings, pair[:1]),
             (rows.block_rings, pair[:1]), (moves.do_move, (pair[0], script[1])), (moves.do_script, (pair[0], script)),
@@ -106,12 +140,19 @@ class Values(unittest.TestCase):
             (parts.bad_parts, pair[:1]), (hurdles.hurdles, pair[:1]), (hurdles.great_hurdles, pair[:1]),
             (hurdles.is_fortress, pair[:1]), (turns.least_turns, signs), (turns.turn_script, signs),
             (flips.least_flips, pair), (flips.flip_script, pair),
+            (closed.opened, signs[:1]), (closed.is_same_closed, signs), (closed.least_closed_turns, signs),
+            (closed.closed_turn_script, signs), (together.common_stretches, pair),
+            (bodies.body_of, (3, [(1, 2), (6, 3)])), (cuts.do_cut, (two[0], ("cut", 2, 4))),
+            (cuts.do_cuts, (two[0], (("cut", 2, 4), ("join", 1, 2)))),
+            (recuts.web, two), (recuts.least_recuts, two), (recuts.recut_script, two), (recuts.recut_ways, two),
         ]
 
     def test_values_are_tuples_and_integers(self):
         for function, arguments in self.results():
             if function.__name__ in ANSWERS:
                 self.assertIs(type(function(*arguments)), bool, function.__name__)
+            elif function.__name__ in BODIES:
+                self.assertIs(type(function(*arguments)), bodies.Body, function.__name__)
             else:
                 self.assertTrue(is_plain_value(function(*arguments)), function.__name__)
 

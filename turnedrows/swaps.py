@@ -29,11 +29,15 @@ def trees_over(k):
     return number
 
 
+def ways_by_sizes(sizes):
+    """The number of least ways to part rings of these sizes, in which each step makes two rings out of one."""
+    ways = factorial(sum([size - 1 for size in sizes]))
+    for size in sizes:
+        # No remainder is lost: d! can be divided by the factorials of the rings' steps all together.
+        ways = ways // factorial(size - 1) * trees_over(size)
+    return ways
+
+
 def swap_ways(first, second):
     """The number of least scripts of swaps."""
-    found = rings(relative_row(first, second))
-    ways = factorial(sum([len(ring) - 1 for ring in found]))
-    for ring in found:
-        # No remainder is lost: d! can be divided by the factorials of the rings' swaps all together.
-        ways = ways // factorial(len(ring) - 1) * trees_over(len(ring))
-    return ways
+    return ways_by_sizes([len(ring) for ring in rings(relative_row(first, second))])
