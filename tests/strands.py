@@ -134,6 +134,23 @@ def search_recuts(n, joints):
     return least, ways
 
 
+def search_singles(n, joints):
+    """From a body on, breadth first over cuts and joins: for the joints of each body the least number of single
+    moves to it, and the number of least scripts that lead there."""
+    least = {joints: 0}
+    ways = {joints: 1}
+    queue = [joints]
+    for here in queue:
+        for there in singles_by_words(n, here).values():
+            if there not in least:
+                least[there] = least[here] + 1
+                ways[there] = 0
+                queue.append(there)
+            if least[there] == least[here] + 1:
+                ways[there] += ways[here]
+    return least, ways
+
+
 def some_bodies(many=4):
     """Bodies of many numbers of pieces up to 40."""
     found = []

@@ -8,8 +8,8 @@ import pathlib
 import unittest
 
 from turnedrows import (
-    blocks, bodies, closed, cuts, drawing, flips, hurdles, moves, nexts, numbering, parts, recuts, rows, signed,
-    spheres, swaps, takes, together, turns,
+    besttree, blocks, bodies, closed, cuts, drawing, families, flips, hurdles, middles, moves, nexts, numbering,
+    papers, parts, recuts, rows, signed, singles, spheres, swaps, takes, together, turns,
 )
 
 FOLDER = pathlib.Path(__file__).resolve().parent.parent / "turnedrows"
@@ -52,6 +52,15 @@ FUNCTIONS = {
         "web": ["first", "second"], "least_recuts": ["first", "second"], "recut_script": ["first", "second"],
         "recut_ways": ["first", "second"],
     },
+    "singles": {
+        "least_singles": ["first", "second"], "single_script": ["first", "second"], "single_ways": ["first", "second"],
+    },
+    "middles": {"cost": ["body", "bodies"], "middle": ["bodies"]},
+    "families": {
+        "check_tree": ["tree", "k"], "ancestors": ["tree", "bodies"], "tree_cost": ["labeled", "bodies"],
+    },
+    "besttree": {"trees": ["k"], "best_tree": ["bodies"]},
+    "papers": {"paper": ["kind", "first", "second"], "shown": ["kind", "first", "second", "paper"]},
 }
 
 CLASSES = {
@@ -64,16 +73,16 @@ CLASSES = {
 }
 
 ANSWERS = ("is_oriented", "crosses", "is_fortress", "is_same_closed")
-BODIES = ("body_of", "do_cut", "do_cuts")
+BODIES = ("body_of", "do_cut", "do_cuts", "middle")
 
 IMPORTS = ("heapq", "math", "itertools", "collections")
 
 
 def is_plain_value(value):
-    """True for a number, a string, or a tuple of these, nested in any way."""
+    """True for a number, a string, a body, or a tuple of these, nested in any way."""
     if type(value) is tuple:
         return all(is_plain_value(item) for item in value)
-    return type(value) in (int, str)
+    return type(value) in (int, str, bodies.Body)
 
 
 class Interface(unittest.TestCase):
@@ -145,6 +154,11 @@ class Values(unittest.TestCase):
             (bodies.body_of, (3, [(1, 2), (6, 3)])), (cuts.do_cut, (two[0], ("cut", 2, 4))),
             (cuts.do_cuts, (two[0], (("cut", 2, 4), ("join", 1, 2)))),
             (recuts.web, two), (recuts.least_recuts, two), (recuts.recut_script, two), (recuts.recut_ways, two),
+            (singles.least_singles, two), (singles.single_script, two), (singles.single_ways, two),
+            (middles.cost, (two[0], two)), (middles.middle, (two,)), (families.check_tree, ((1, 0), 2)),
+            (families.ancestors, ((1, 0), two)), (families.tree_cost, ((two[0], 1, 0), two)), (besttree.trees, (4,)),
+            (besttree.best_tree, (two,)), (papers.paper, ("blocks", *pair)),
+            (papers.shown, ("next", *pair, ("pairs", ((0, 1),)))),
         ]
 
     def test_values_are_tuples_and_integers(self):

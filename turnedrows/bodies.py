@@ -120,3 +120,9 @@ def check_same_pieces(first, second):
     """InvalidBody if the two bodies differ in their number of pieces."""
     if first.n != second.n:
         raise InvalidBody("the bodies differ in their number of pieces")
+
+
+def check_all_same_pieces(bodies):
+    """InvalidBody if some of the bodies differ in their number of pieces."""
+    for body in bodies:
+        check_same_pieces(bodies[0], body)

@@ -50,14 +50,22 @@ def rings_of(leads):
     return tuple(found)
 
 
+def places_lead(row):
+    """The dict in which each place of a plain row leads to the place that its number tells."""
+    return {p: row[p] - 1 for p in range(len(row))}
+
+
 def rings(row):
     """The rings of the places of a plain row."""
-    check_row(row)
-    return rings_of({p: row[p] - 1 for p in range(len(row))})
+    return rings_of(places_lead(check_row(row)))
+
+
+def blocks_lead(row):
+    """The dict in which each of the numbers 1 to n + 1 leads to the next one of its block ring."""
+    full = (0,) + row + (len(row) + 1,)
+    return {i: full.index(full[i - 1] + 1) for i in range(1, len(full))}
 
 
 def block_rings(row):
     """The block rings of the numbers 1 to n + 1 of a plain row of n pieces."""
-    check_row(row)
-    full = (0,) + row + (len(row) + 1,)
-    return rings_of({i: full.index(full[i - 1] + 1) for i in range(1, len(full))})
+    return rings_of(blocks_lead(check_row(row)))
