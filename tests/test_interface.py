@@ -7,10 +7,13 @@ import inspect
 import pathlib
 import unittest
 
+from tests import helpers, kin, strands
 from turnedrows import (
-    besttree, blocks, bodies, closed, cuts, drawing, families, flips, hurdles, middles, moves, nexts, numbering,
-    papers, parts, recuts, rows, signed, singles, spheres, swaps, takes, together, turns,
+    besttree, blocks, bodies, book, booktext, closed, cuts, drawing, families, fewest, flips, hurdles, middles, moves,
+    nexts, numbering, papers, parts, recuts, roads, rows, scripts, signed, singles, spheres, swaps, takes, text,
+    together, turns,
 )
+from turnedrows.errors import InvalidBody, InvalidRow
 
 FOLDER = pathlib.Path(__file__).resolve().parent.parent / "turnedrows"
 
@@ -61,6 +64,16 @@ FUNCTIONS = {
     },
     "besttree": {"trees": ["k"], "best_tree": ["bodies"]},
     "papers": {"paper": ["kind", "first", "second"], "shown": ["kind", "first", "second", "paper"]},
+    "fewest": {"least": ["kind", "first", "second"], "script": ["kind", "first", "second"]},
+    "roads": {"stages": ["kind", "first", "second"], "is_between": ["kind", "first", "middle", "second"]},
+    "text": {
+        "write_row": ["row"], "write_signed": ["row"], "write_body": ["body"], "read_row": ["text"],
+        "read_signed": ["text"], "read_body": ["text"],
+    },
+    "scripts": {
+        "write_script": ["moves"], "write_tree": ["tree"], "read_script": ["text"], "read_tree": ["text", "k"],
+    },
+    "booktext": {"write_book": ["book"], "read_book": ["n", "text"]},
 }
 
 CLASSES = {
@@ -70,10 +83,22 @@ CLASSES = {
             "strands": ["self"],
         },
     },
+    "book": {
+        "Book": {
+            "__init__": ["self", "n"], "put": ["self", "name", "body"], "drop": ["self", "name"],
+            "move": ["self", "name", "move"], "undo": ["self"], "redo": ["self"], "forget": ["self"], "copy": ["self"],
+            "names": ["self"], "body": ["self", "name"], "table": ["self", "kind"], "nearest": ["self", "name", "kind"],
+        },
+    },
 }
 
-ANSWERS = ("is_oriented", "crosses", "is_fortress", "is_same_closed")
-BODIES = ("body_of", "do_cut", "do_cuts", "middle")
+ERRORS = (
+    "InvalidRow", "InvalidMove", "InvalidBody", "InvalidTree", "InvalidText", "InvalidName", "UnknownName", "TooMany",
+    "OutOfRange",
+)
+
+ANSWERS = ("is_oriented", "crosses", "is_fortress", "is_same_closed", "is_between")
+BODIES = ("body_of", "do_cut", "do_cuts", "middle", "read_body")
 
 IMPORTS = ("heapq", "math", "itertools", "collections")
 
@@ -106,6 +131,27 @@ class Interface(unittest.TestCase):
                     self.assertIn(method, vars(kind))
                     self.assertEqual(list(inspect.signature(vars(kind)[method]).parameters), arguments, method)
 
+    def test_each_error_is_directly_under_the_base_class(self):
+        there = importlib.import_module("turnedrows.errors")
+        self.assertEqual(there.TurnedrowsError.__bases__, (ValueError,))
+        kinds = [name for name, kind in vars(there).items() if inspect.isclass(kind)]
+        self.assertEqual(sorted(kinds), sorted([*ERRORS, "TurnedrowsError"]))
+        for name in ERRORS:
+            self.assertEqual(getattr(there, name).__bases__, (there.TurnedrowsError,))
+            self.assertEqual(getattr(there, name).__module__, "turnedrows.errors")
+
+    def test_every_raised_error_is_one_of_them(self):
+        raised = set()
+        for path in FOLDER.glob("*.py"):
+            for node in ast.walk(ast.parse(path.read_text(encoding="ascii"))):
+                if isinstance(node, ast.Raise):
+                    raised.add(node.exc.func.id)
+        self.assertEqual(raised, set(ERRORS))
+
+    def test_no_other_files(self):
+        names = {path.stem for path in FOLDER.glob("*.py")}
+        self.assertEqual(names, {*FUNCTIONS, *CLASSES, "errors", "__init__"})
+
     def test_no_clock_no_random_numbers_no_files(self):
         for path in FOLDER.iterdir():
             if path.name == "__pycache__":
@@ -134,6 +180,9 @@ class Values(unittest.TestCase):
         script_of_turns = (("turn", 0, 2), ("turn", 3, 3))
         script = (("swap", 0, 1), ("blocks", 0, 1, 2, 4))
         two = (bodies.Body(3, (("open", (1, -2, 3)),)), bodies.Body(3, (("open", (1, 2, 3)),)))
+        shelf = book.Book(3)
+        shelf.put("a", two[0])
+        shelf.put("b", two[1])
         return [
             (rows.check_row, pair[:1]), (rows.sorted_row, (5,)), (rows.relative_row, pair), (rows.rings, pair[:1]),
             (rows.block_rings, pair[:1]), (moves.do_move, (pair[0], script[1])), (moves.do_script, (pair[0], script)),
@@ -159,6 +208,13 @@ class Values(unittest.TestCase):
             (families.ancestors, ((1, 0), two)), (families.tree_cost, ((two[0], 1, 0), two)), (besttree.trees, (4,)),
             (besttree.best_tree, (two,)), (papers.paper, ("blocks", *pair)),
             (papers.shown, ("next", *pair, ("pairs", ((0, 1),)))),
+            (fewest.least, ("flip", *pair)), (fewest.script, ("single", *two)), (roads.stages, ("turn", *signs)),
+            (roads.is_between, ("blocks", pair[0], pair[0], pair[1])), (text.write_row, pair[:1]),
+            (text.write_signed, signs[:1]), (text.write_body, two[:1]), (text.read_row, ("2 1 3",)),
+            (text.read_signed, ("2 -1 +3",)), (text.read_body, ("[2 -1](3)",)), (scripts.write_script, (script,)),
+            (scripts.write_tree, (((1, 0), 2),)), (scripts.read_script, ("swap 0 1; cut 2 3",)),
+            (scripts.read_tree, ("((1 0) 2)", 3)), (booktext.write_book, (shelf,)),
+            (booktext.read_book, (3, "a: [1 2 3]\nb: (1 2)[3]")),
         ]
 
     def test_values_are_tuples_and_integers(self):
@@ -167,19 +223,110 @@ class Values(unittest.TestCase):
                 self.assertIs(type(function(*arguments)), bool, function.__name__)
             elif function.__name__ in BODIES:
                 self.assertIs(type(function(*arguments)), bodies.Body, function.__name__)
+            elif function.__name__ == "read_book":
+                self.assertIs(type(function(*arguments)), book.Book)
             else:
                 self.assertTrue(is_plain_value(function(*arguments)), function.__name__)
 
+    def plain(self, value):
+        """The value itself, or what a book holds."""
+        if type(value) is book.Book:
+            return value.n, booktext.write_book(value)
+        return tuple([self.plain(item) for item in value]) if type(value) is tuple else value
+
     def test_arguments_stay_and_results_come_again(self):
         for function, arguments in self.results():
-            before = copy.deepcopy(arguments)
+            before = copy.deepcopy(self.plain(arguments))
             result = function(*arguments)
-            self.assertEqual(arguments, before)
-            self.assertEqual(function(*arguments), result)
+            self.assertEqual(self.plain(arguments), before)
+            self.assertEqual(self.plain(function(*arguments)), self.plain(result))
 
     def test_each_function_is_called_here(self):
         called = [function.__name__ for function, _ in self.results()]
         self.assertEqual(sorted(called), sorted([name for module in FUNCTIONS.values() for name in module]))
+
+    def test_attributes_are_set_when_the_object_is_created(self):
+        self.assertEqual(bodies.Body(2, (("open", (1, 2)),)).n, 2)
+        self.assertEqual(book.Book(2).n, 2)
+
+    def test_later_changes_of_a_list_change_nothing(self):
+        joints = [(1, 2), (3, 6)]
+        body = bodies.body_of(3, joints)
+        shelf = book.Book(3)
+        shelf.put("a", body)
+        joints.clear()
+        self.assertEqual(shelf.body("a").joints(), ((1, 2), (3, 6)))
+
+
+PLAIN_PAIRS = (
+    rows.relative_row, swaps.least_swaps, swaps.swap_script, swaps.swap_ways, nexts.least_nexts, nexts.next_script,
+    nexts.next_ways, takes.least_takes, takes.take_script, blocks.least_blocks, blocks.block_script,
+    flips.least_flips, flips.flip_script,
+)
+SIGNED_PAIRS = (
+    signed.relative_signed, turns.least_turns, turns.turn_script, closed.is_same_closed, closed.least_closed_turns,
+    closed.closed_turn_script, together.common_stretches,
+)
+BODY_PAIRS = (
+    recuts.web, recuts.least_recuts, recuts.recut_script, recuts.recut_ways, singles.least_singles,
+    singles.single_script, singles.single_ways,
+)
+PLAIN_ROWS = (
+    rows.check_row, rows.rings, rows.block_rings, takes.rising, takes.falls, numbering.row_number, text.write_row,
+)
+SIGNED_ROWS = (
+    signed.check_signed, signed.breaks, drawing.marks, drawing.light_lines, drawing.drawing_rings, parts.parts,
+    parts.bad_parts, hurdles.hurdles, hurdles.great_hurdles, hurdles.is_fortress, closed.opened, text.write_signed,
+)
+WITH_MOVES = ((moves.do_move, moves.do_script, helpers.BAD_ROWS), (signed.do_turn, signed.do_turns, helpers.BAD_SIGNED))
+
+
+class Refusals(unittest.TestCase):
+    """Each function that gets rows or bodies refuses bad ones ahead of any other error."""
+
+    def test_pairs(self):
+        for function in PLAIN_PAIRS:
+            helpers.check_refuses_rows(self, InvalidRow, function)
+        for function in SIGNED_PAIRS:
+            helpers.check_refuses_signed(self, InvalidRow, function)
+        for function in BODY_PAIRS:
+            strands.check_refuses_pieces(self, InvalidBody, function)
+
+    def test_single_rows(self):
+        for functions, bad_ones in ((PLAIN_ROWS, helpers.BAD_ROWS), (SIGNED_ROWS, helpers.BAD_SIGNED)):
+            for function in functions:
+                for bad in bad_ones:
+                    with self.assertRaises(InvalidRow, msg=function):
+                        function(bad)
+
+    def test_bad_rows_ahead_of_bad_moves(self):
+        for do_one, do_several, bad_ones in WITH_MOVES:
+            for bad in bad_ones:
+                for move in (("swap", 0, 1), ("turn", 0, 0), ("swap", -1, 99), ("",), ()):
+                    with self.assertRaises(InvalidRow):
+                        do_one(bad, move)
+                    with self.assertRaises(InvalidRow):
+                        do_several(bad, (move,))
+                with self.assertRaises(InvalidRow):
+                    do_several(bad, ())
+
+    def test_several_bodies(self):
+        for k in range(2, 7):
+            tree = kin.leaning(range(k))
+            for several in kin.differing(k):
+                for act in (
+                    lambda: middles.middle(several), lambda: middles.cost(several[0], several),
+                    lambda: families.ancestors(tree, several), lambda: besttree.best_tree(several),
+                ):
+                    with self.assertRaises(InvalidBody):
+                        act()
+
+    def test_each_function_of_two_rows_or_bodies_is_here(self):
+        names = {function.__name__ for function in PLAIN_PAIRS + SIGNED_PAIRS + BODY_PAIRS}
+        pairs = {name for module in FUNCTIONS.values() for name in module if module[name] == ["first", "second"]}
+        self.assertEqual(names, pairs)
+        names = {function.__name__ for function in PLAIN_ROWS + SIGNED_ROWS}
+        self.assertEqual(names, {name for module in FUNCTIONS.values() for name in module if module[name] == ["row"]})
 
 
 if __name__ == "__main__":

@@ -6,10 +6,11 @@ import unittest
 
 from tests import helpers, kin, strands
 from tests.helpers import HUGE
+from tests.kinds import check_refuses_kind
 from turnedrows.blocks import least_blocks
 from turnedrows.bodies import body_of
 from turnedrows.drawing import drawing_rings
-from turnedrows.errors import InvalidBody, InvalidRow, OutOfRange
+from turnedrows.errors import OutOfRange
 from turnedrows.nexts import least_nexts
 from turnedrows.papers import paper, shown
 from turnedrows.recuts import least_recuts, web
@@ -349,19 +350,11 @@ class Refused(unittest.TestCase):
 
     def test_bad_rows_ahead_of_bad_papers(self):
         for kind in WORDS:
+            check_refuses_kind(self, kind, paper)
             for value in ((WORDS[kind], ()), (WORDS[kind], (), ()), ("", ((),)), (WORDS[kind], ((0,), (0,), (-1,)))):
-                def ask(first, second, kind=kind, value=value):
+                def ask(kind, first, second, value=value):
                     shown(kind, first, second, value)
-                self.check_refuses(kind, ask)
-            self.check_refuses(kind, lambda first, second, kind=kind: paper(kind, first, second))
-
-    def check_refuses(self, kind, function):
-        if kind in PLAIN:
-            helpers.check_refuses_rows(self, InvalidRow, function)
-        elif kind == "turn":
-            helpers.check_refuses_signed(self, InvalidRow, function)
-        else:
-            strands.check_refuses_pieces(self, InvalidBody, function)
+                check_refuses_kind(self, kind, ask)
 
 
 if __name__ == "__main__":
